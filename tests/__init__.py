@@ -1,0 +1,1 @@
+"""Tests of the program; they use only what the document names."""

@@ -1,0 +1,1 @@
+"""Vitrine: a house's things, where each one was, who wore it, and what can be shown."""
