@@ -4,8 +4,11 @@ import copy
 import inspect
 import unittest
 
+from tests.houses import depth, small_house, state
 from tests.reference import HOME, PAPERS
-from vitrine import cases, stays, tales
+from vitrine import cases, rows, shows, stays, tales
+from vitrine.errors import HouseError
+from vitrine.house import House
 
 ARGUMENTS = (
     (tales.cost, "home papers prices story"),
@@ -19,7 +22,26 @@ ARGUMENTS = (
     (cases.common, "ranges"),
     (cases.settings, "ranges"),
     (cases.clashes, "things bars"),
+    (shows.filled, "shows lights leaves"),
+    (shows.good_dealing, "shows lights leaves dealing:rows"),
+    (shows.shown_full, "shows lights leaves dealing:rows pairs"),
+    (rows.house_rows, "house"),
+    (rows.read_house, "lines:rows"),
 )
+
+DEEDS = {
+    "place": "name word", "thing": "name kind low high limit day home grade", "strike": "number", "bar": "one other",
+    "unbar": "one other", "show": "name first last size things", "close": "name", "reprice": "doubt gap",
+    "undo": "", "redo": "", "hand": "thing day here there grade", "lend": "thing first last",
+}
+LISTS = {
+    "places": "", "things": "", "papers": "thing", "loans": "thing", "bars": "", "shows": "", "prices": "", "upcoming": "",
+}
+QUESTIONS = {
+    "story": "thing", "where": "thing day", "stays": "thing", "changes": "thing", "doubted": "thing", "unsaid": "thing",
+    "light": "thing day", "contents": "place day", "common": "place day", "clashes": "place day", "blamed": "",
+    "plan": "day", "twin": "",
+}
 
 RANGES = [(60, 90), (10, 50), (40, 70), (0, 5)]
 THINGS = [("fan", "silk", 0, 9), ("bow", "iron", 20, 30), ("arm", "wood", 9, 20)]
@@ -29,42 +51,90 @@ ROWS = [(4, 0), (0, 1), (2, 1), (9, 1), (1, 1)]
 HANDED = {
     "home": HOME, "papers": PAPERS, "prices": (9, 1), "story": [1, 2], "bound": 1, "rows": ROWS, "day": 35,
     "ranges": RANGES, "things": THINGS, "bars": BARS,
+    "shows": [("may", 2, 3, 2, ("cap", "bow")), ("april", 1, 2, 1, ("cap", "fan"))],
+    "lights": {"cap": 1, "bow": 5, "fan": 5}, "leaves": {"bow": [(2, 2)], "cap": []},
+    "dealing": [(1, "april", ["fan"]), (2, "april", ["fan"]), (2, "may", ["cap"]), (3, "may", ["bow"])],
+    "pairs": [(2, "may"), (3, "may")],
+    "lines": ["price 2 3", "place hall lit", "thing cap silk 1 2 3 4 hall 5", "show may 1 1 1 cap", "next 7"],
 }
+
+# What is asked of a small house.
+ASKED = {"thing": "cap", "place": "den", "day": 20}
+
+
+def names_of(words):
+    """The arguments' names; a word ahead of a colon says only what is handed in."""
+    return [word.split(":")[-1] for word in words.split()]
+
+
+def handed_in(words):
+    """What is handed in, made anew."""
+    found = []
+    for word in words.split():
+        word = word.split(":")[0]
+        found.append(small_house() if word == "house" else copy.deepcopy(HANDED[word]))
+    return found
 
 
 def calls():
     """Each function with what it is handed, made anew."""
     for function, words in ARGUMENTS:
-        yield function, [copy.deepcopy(HANDED[word]) for word in words.split()]
+        yield function, handed_in(words)
+
+
+def questions():
+    """Each question, and each list, with what is asked."""
+    for name, words in {**LISTS, **QUESTIONS}.items():
+        yield name, [ASKED[word] for word in words.split()]
 
 
 def lists_in(found):
-    """The lists that an answer is or holds."""
-    if isinstance(found, list):
-        return [found]
-    return [part for part in found if isinstance(part, list)] if isinstance(found, tuple) else []
+    """The lists that an answer is or holds, the outer ones first."""
+    if not isinstance(found, (list, tuple)):
+        return []
+    inner = [part for held in found for part in lists_in(held)]
+    return [found] + inner if isinstance(found, list) else inner
+
+
+def plain(found):
+    """An answer in a form that can be compared: a house as all that it keeps."""
+    return (state(found), depth(found)) if isinstance(found, House) else copy.deepcopy(found)
 
 
 class Interface(unittest.TestCase):
     def test_arguments_are_there_under_their_names(self):
         for function, words in ARGUMENTS:
             with self.subTest(function.__name__):
-                self.assertEqual(list(inspect.signature(function).parameters), words.split())
+                self.assertEqual(list(inspect.signature(function).parameters), names_of(words))
 
     def test_arguments_may_be_handed_in_by_name(self):
         for function, words in ARGUMENTS:
             with self.subTest(function.__name__):
-                named = {word: copy.deepcopy(HANDED[word]) for word in words.split()}
-                self.assertEqual(function(**named), function(*named.values()))
+                named = dict(zip(names_of(words), handed_in(words)))
+                self.assertEqual(plain(function(**named)), plain(function(*named.values())))
+
+    def test_a_house_has_its_deeds_lists_and_questions(self):
+        self.assertEqual(list(inspect.signature(House).parameters), [])
+        for name, words in {**DEEDS, **LISTS, **QUESTIONS}.items():
+            with self.subTest(name):
+                self.assertEqual(list(inspect.signature(getattr(House(), name)).parameters), words.split())
+
+    def test_kinds_of_what_a_house_tells(self):
+        kinds = {
+            "prices": tuple, "upcoming": int, "where": str, "light": int, "common": tuple, "plan": tuple, "twin": House,
+        }
+        for name, asked in questions():
+            with self.subTest(name):
+                self.assertIs(type(getattr(small_house(), name)(*asked)), kinds.get(name, list))
 
 
 class NothingChangedOrKept(unittest.TestCase):
     def test_what_is_handed_in_is_as_it_was(self):
         for function, handed in calls():
             with self.subTest(function.__name__):
-                before = copy.deepcopy(handed)
+                before = [plain(part) for part in handed]
                 function(*handed)
-                self.assertEqual(handed, before)
+                self.assertEqual([plain(part) for part in handed], before)
 
     def test_what_is_handed_in_is_as_it_was_behind_a_refusal(self):
         for function, handed in ((tales.cost, [HOME, PAPERS[:], (1, 1), [9, 1]]),
@@ -77,11 +147,11 @@ class NothingChangedOrKept(unittest.TestCase):
         for function, handed in calls():
             with self.subTest(function.__name__):
                 first = function(*handed)
-                expected = copy.deepcopy(first)
+                expected = plain(first)
                 for part in lists_in(first):
                     part.append("more")
                     part[0] = "other"
-                self.assertEqual(function(*handed), expected)
+                self.assertEqual(plain(function(*handed)), expected)
 
     def test_each_told_list_is_a_new_one(self):
         for function, handed in calls():
@@ -96,6 +166,7 @@ class NothingChangedOrKept(unittest.TestCase):
         empties = (
             (tales.told_story, (HOME, [], (1, 1))), (tales.gaps, (HOME, [], [])),
             (stays.changes, (HOME, [], (1, 1))), (cases.settings, ([],)), (cases.clashes, ([], [])),
+            (shows.filled, ([], {}, {})), (House().places, ()), (House().blamed, ()), (House().shows, ()),
         )
         for function, handed in empties:
             with self.subTest(function.__name__):
@@ -117,6 +188,44 @@ class NothingChangedOrKept(unittest.TestCase):
         ranges[0] = (2, 3)
         self.assertEqual(cases.common(ranges), ("all", 2, 3))
         self.assertEqual(cases.settings(ranges)[1], [0])
+
+    def test_a_show_does_not_keep_the_list_of_its_things(self):
+        house = small_house()
+        things = ["cap", "bow"]
+        house.show("june", 1, 1, 1, things)
+        self.assertEqual(things, ["cap", "bow"])
+        things.clear()
+        self.assertEqual(house.shows()[0], ("june", 1, 1, 1, ("cap", "bow")))
+        things = ["cap", "fan"]
+        self.assertRaises(HouseError, house.show, "july", 1, 1, 1, things)
+        self.assertEqual(things, ["cap", "fan"])
+
+    def test_lists_of_a_house_that_are_changed_change_no_later_answer(self):
+        house = small_house()
+        house.reprice(9, 1)
+        house.hand("cap", 30, "shop", "hall", 1)
+        before = (state(house), depth(house))
+        for name, asked in questions():
+            with self.subTest(name):
+                first = getattr(house, name)(*asked)
+                expected = plain(first)
+                for part in lists_in(first):
+                    part.append("more")
+                    part[0] = "other"
+                self.assertEqual(plain(getattr(house, name)(*asked)), expected)
+        self.assertEqual((state(house), depth(house)), before)
+
+    def test_lights_and_leaves_are_not_kept(self):
+        lights, leaves = {"cap": 1}, {"cap": []}
+        told = shows.filled([("may", 1, 1, 1, ("cap",))], lights, leaves)
+        lights["cap"] = 0
+        leaves["cap"].append((1, 1))
+        self.assertEqual(told[0], [(1, "may", ["cap"])])
+        self.assertEqual(shows.filled([("may", 1, 1, 1, ("cap",))], {"cap": 1}, {"cap": []})[0], told[0])
+
+    def test_the_same_again(self):
+        for function, handed in calls():
+            self.assertEqual(plain(function(*handed)), plain(function(*handed)))
 
     def test_an_earlier_answer_stays_as_it_was(self):
         papers = [(1, 20, "hall", "shop", 3)]

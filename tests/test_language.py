@@ -106,6 +106,53 @@ class Language(unittest.TestCase):
                     method = isinstance(node, ast.FunctionDef) and node.col_offset > 0
                     self.assertFalse(hasattr(builtins, word) and not method, (name, word))
 
+    def test_locals_are_not_called_like_imports_and_classes(self):
+        for path, tree in trees():
+            taken = {node.name for node in tree.body if isinstance(node, ast.ClassDef)}
+            for node in tree.body:
+                if isinstance(node, ast.ImportFrom):
+                    taken |= {part.asname or part.name for part in node.names}
+            for node in ast.walk(tree):
+                if isinstance(node, (ast.arg, ast.Name)):
+                    self.assertFalse(taken & set(bound_names(path, node)), (path.name, node.lineno))
+
+    def test_a_names_file_binds_it_once(self):
+        for path, tree in trees():
+            names = []
+            for node in tree.body:
+                if isinstance(node, ast.ImportFrom):
+                    names += [part.name for part in node.names]
+                elif isinstance(node, (ast.FunctionDef, ast.ClassDef)):
+                    names.append(node.name)
+                elif isinstance(node, ast.Assign):
+                    names += [target.id for target in node.targets]
+            self.assertEqual(len(names), len(set(names)), path.name)
+
+    def test_no_name_is_a_method_and_a_value(self):
+        methods, values, asked = set(), set(), set()
+        for name, node in nodes(ast.ClassDef):
+            for part in ast.walk(node):
+                if isinstance(part, ast.FunctionDef):
+                    methods.add(part.name)
+        for name, node in nodes(ast.Attribute):
+            (values if isinstance(node.ctx, ast.Store) else asked).add(node.attr)
+        self.assertEqual(methods & values, set())
+        self.assertEqual(values & {word for kind in (str, int, list, dict, set, bytes) for word in dir(kind)}, set())
+        own = {word for kind in (str, list, dict, set) for word in dir(kind)} | methods | values
+        self.assertEqual(asked - own, set())
+
+    def test_nothing_draws_from_itself(self):
+        drawn = {"vitrine." + path.stem: set() for path in FILES}
+        for path, tree in trees():
+            for node in tree.body:
+                if isinstance(node, ast.ImportFrom):
+                    drawn["vitrine." + path.stem].add(node.module)
+        while drawn:
+            done = [name for name, others in drawn.items() if not others & set(drawn)]
+            self.assertTrue(done, drawn)
+            for name in done:
+                del drawn[name]
+
     def test_of_pythons_own_names_those_that_are_listed(self):
         for name, node in nodes(ast.Name):
             if hasattr(builtins, node.id):

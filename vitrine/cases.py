@@ -1,7 +1,6 @@
 """What can lie in one case: dampnesses that suit, and things that clash."""
 
-LEAST = 0
-GREATEST = 100
+from vitrine.bounds import LEAST_DAMP, MOST_DAMP
 
 
 def apart(one, other):
@@ -16,8 +15,8 @@ def common(ranges):
             if apart(ranges[one], ranges[other]):
                 return ("never", one, other)
     # Ranges any two of which have a dampness in common have one in common all together.
-    low = max([pair[0] for pair in ranges], default=LEAST)
-    high = min([pair[1] for pair in ranges], default=GREATEST)
+    low = max([pair[0] for pair in ranges], default=LEAST_DAMP)
+    high = min([pair[1] for pair in ranges], default=MOST_DAMP)
     return ("all", low, high)
 
 
